@@ -1,0 +1,1 @@
+"""Programs of parts made smaller, flatter and shorter, and who could tell."""
