@@ -2,6 +2,7 @@
 
 OUT = ("out",)
 BACK = ("back",)
+LACK = ("lack",)
 HUGE = 10 ** 60 - 1
 
 STRANGE = [
@@ -33,6 +34,21 @@ def show(*needs, risky=False):
 
 def late(name, part, *needs):
     return ("late", name, part, needs)
+
+
+def value(place, *values):
+    """What a give row gives."""
+    return (place, values)
+
+
+def shown(place, *values):
+    """The event of a show row, or of a late row that is asked for."""
+    return ("show", place, values)
+
+
+def told(place, *values):
+    """The event of asking for a value."""
+    return ("told", (place, values))
 
 
 def program_of(*parts, entries=(0,), opens=(), marks=None):

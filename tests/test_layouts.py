@@ -3,22 +3,8 @@ import unittest
 
 from leanbundle.errors import BadLayout
 from leanbundle.runs import layout_events, layout_state
-from tests.samples import (BACK, EXAMPLE, FULL, FULL_LAYOUT, FULL_RUN, OUT, ask, give, hand, late, load, program_of, show,
-                           spoilt)
-
-LACK = ("lack",)
-
-
-def value(place, *values):
-    return (place, values)
-
-
-def shown(place, *values):
-    return ("show", place, values)
-
-
-def told(place, *values):
-    return ("told", (place, values))
+from tests.samples import (BACK, EXAMPLE, FULL, FULL_LAYOUT, FULL_RUN, LACK, OUT, ask, give, hand, late, load,
+                           program_of, show, shown, spoilt, told, value)
 
 
 class LayoutCase(unittest.TestCase):

@@ -3,23 +3,8 @@ import unittest
 
 from leanbundle.errors import BadLot
 from leanbundle.runs import events_of, state_after
-from tests.samples import (BACK, EXAMPLE, FULL, FULL_LOT, FULL_RUN, OUT, STRANGE, ask, give, hand, late, load,
-                           program_of, show, spoilt)
-
-
-def value(place, *values):
-    return (place, values)
-
-
-def shown(place, *values):
-    return ("show", place, values)
-
-
-def told(place, *values):
-    return ("told", (place, values))
-
-
-LACK = ("lack",)
+from tests.samples import (BACK, EXAMPLE, FULL, FULL_LOT, FULL_RUN, LACK, OUT, STRANGE, ask, give, hand, late, load,
+                           program_of, show, shown, spoilt, told, value)
 
 
 class RunCase(unittest.TestCase):
