@@ -19,6 +19,12 @@ class Frame:
         # The place of a pass row whose turn came, but which waits for the part that it loads.
         self.passing = None
 
+    def twin(self):
+        other = Frame(self.kind, self.told, self.todo)
+        other.at = self.at
+        other.passing = self.passing
+        return other
+
     def as_tuple(self):
         if self.kind == "late":
             return ("late", self.told)
@@ -33,6 +39,7 @@ class Play:
 
     def __init__(self, program, lot, layout, failer):
         self.source = program
+        self.layout = layout
         self.absent = {place: True for place in lot}
         self.is_laid = layout is not None
         self.packs = layout[0] if self.is_laid else ()
@@ -40,6 +47,10 @@ class Play:
         self.failer = failer
         self.failed = False
         self.seen = []
+        # For each row that came to its risk, (place, number), number that of the events ahead of it.
+        self.risks = []
+        # The rows whose turn came, also those that are not done: a pass row that waits is none of turns.
+        self.came = {}
         self.turns = []
         self.frames = []
         # For each call out that has not ended, the height of the stack at which it was made.
@@ -50,6 +61,18 @@ class Play:
         self.givers = {}
         # For each place of a give row that gave, the value.
         self.worths = {}
+
+    def branch(self):
+        """Another Play at the same point, which goes on by itself; seen, risks and came begin anew in it."""
+        twin = Play(self.source, list(self.absent), self.layout, self.failer)
+        twin.failed = self.failed
+        twin.turns = list(self.turns)
+        twin.frames = [frame.twin() for frame in self.frames]
+        twin.calls = list(self.calls)
+        twin.begun = dict(self.begun)
+        twin.givers = {need: self.givers[need] for need in self.givers}
+        twin.worths = {place: self.worths[place] for place in self.worths}
+        return twin
 
     def take(self, step):
         """Do a step of the program."""
@@ -94,6 +117,7 @@ class Play:
 
     def do_row(self, frame, place):
         row = row_at(self.source, place)
+        self.came[place] = True
         if row[0] == "pass":
             frame.passing = place
             self.load_from_row(row[2])
@@ -140,7 +164,7 @@ class Play:
 
     def give(self, place, row):
         found = self.look_up(row[2])
-        if found is None or self.is_fated(place, is_risky(row)):
+        if found is None or self.fails_at_risk(place, is_risky(row)):
             self.fail_at(place)
         else:
             self.worths[place] = (place, found)
@@ -148,12 +172,15 @@ class Play:
 
     def show(self, place, needs, risky):
         found = self.look_up(needs)
-        if found is None or self.is_fated(place, risky):
+        if found is None or self.fails_at_risk(place, risky):
             self.fail_at(place)
         else:
             self.seen.append(("show", place, found))
 
-    def is_fated(self, place, risky):
+    def fails_at_risk(self, place, risky):
+        """Let a row whose needs are found come to its risk, if it is risky; whether it fails there."""
+        if risky:
+            self.risks.append((place, len(self.seen)))
         return risky and place == self.failer
 
     def fail_at(self, place):

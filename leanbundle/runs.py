@@ -19,23 +19,42 @@ def is_step(program, thing):
     return thing[0] == "back" and len(thing) == 1
 
 
+def steps_of(program):
+    """All steps of the program: the loads, the asks, both ascending, and the step back."""
+    return [("load", part) for part in program[2]] + [("ask",) + need for need in program[3]] + [("back",)]
+
+
 def is_risky_place(program, thing):
     """Whether any object is the place of a risky row of the program."""
     return is_place(program, thing) and is_risky(row_at(program, thing))
 
 
-def demand_run(program, thing):
+def wrong_place(program, thing):
+    """Where any object is no run of the program, as BadRun tells it; None if it is one."""
     if not is_tuple(thing, 2, 2) or not isinstance(thing[0], list):
-        raise BadRun(-1)
+        return -1
     steps, failing = thing
     for at, step in enumerate(steps):
         if at >= MOST_STEPS or not is_step(program, step):
-            raise BadRun(at)
+            return at
     if failing is not None and not is_risky_place(program, failing):
-        raise BadRun(-1)
+        return -1
+    return None
+
+
+def is_run(program, thing):
+    """Whether any object is a run of the program."""
+    return wrong_place(program, thing) is None
+
+
+def demand_run(program, thing):
+    place = wrong_place(program, thing)
+    if place is not None:
+        raise BadRun(place)
 
 
 def play_run(program, lot, layout, run):
+    """The Play behind a run of the program without the lot, or laid if layout is not None."""
     steps, failing = run
     play = Play(program, lot, layout, failing)
     for step in steps:

@@ -79,3 +79,76 @@ def drawn_run(draw, program):
 def draws(many):
     """So many generators, always the same ones."""
     return [random.Random(seed) for seed in range(many)]
+
+
+def given_names(program_parts):
+    """The (part, name) that rows of these parts give, ascending, without duplicates."""
+    return sorted({(part, row[1]) for part, rows in enumerate(program_parts) for row in rows
+                   if row[0] in ("give", "pass", "late")})
+
+
+def with_given_needs(draw, parts):
+    """The same rows, but most needs are of names that are given."""
+    given = given_names(parts)
+
+    def kept_or_given(need):
+        return draw.choice(given) if given and draw.random() < 0.85 else need
+
+    def row_with(row):
+        if row[0] == "pass":
+            return row[:2] + kept_or_given(row[2:])
+        if row[0] in ("give", "show", "late"):
+            at = {"give": 2, "show": 1, "late": 3}[row[0]]
+            return row[:at] + (tuple(kept_or_given(need) for need in row[at]),) + row[at + 1:]
+        return row
+
+    return [[row_with(row) for row in rows] for rows in parts]
+
+
+def drawn_small_program(draw, most_rows=6):
+    """A program of few rows, entries and open names, in which few needs are lacking from the outset."""
+    many = draw.choice([1, 2, 2, 3, 3])
+    parts, outs = [[] for _ in range(many)], 2
+    for _ in range(draw.randrange(1, min(most_rows, 5 * many) + 1)):
+        row = drawn_row(draw, many)
+        free = [rows for rows in parts if len(rows) < 5]
+        if row != ("out",) or outs:
+            outs -= row == ("out",)
+            draw.choice(free).append(row)
+    parts = with_given_needs(draw, parts)
+    given = given_names(parts) or [(0, "a")]
+    entries = tuple(sorted(draw.sample(range(many), min(many, draw.choice([1, 2])))))
+    opens = tuple(sorted(draw.sample(given, min(len(given), draw.choice([0, 1, 2])))))
+    return (tuple(tuple(rows) for rows in parts), tuple(draw.random() < 0.5 for _ in parts), entries, opens)
+
+
+def drawn_other(draw, program):
+    """A program with as many parts and rows, the same entries and opens, and most of the same rows."""
+    parts = [list(rows) for rows in program[0]]
+    outs = sum(row == ("out",) for rows in parts for row in rows)
+    for rows in parts:
+        for at, row in enumerate(rows):
+            chance = draw.random()
+            if chance < 0.12 and row[0] in ("give", "show"):
+                rows[at] = row[:-1] + (not row[-1],)
+            elif chance < 0.24:
+                new = drawn_row(draw, len(parts))
+                if new != ("out",) or outs + (row != ("out",)) <= 2:
+                    outs += (new == ("out",)) - (row == ("out",))
+                    rows[at] = new
+    return (tuple(tuple(rows) for rows in parts), tuple(draw.random() < 0.5 for _ in parts)) + program[2:]
+
+
+def few_of(draw, places):
+    return tuple(sorted(draw.sample(places, min(len(places), draw.choice([0, 1, 1, 2, 3])))))
+
+
+def drawn_made(draw, program, layout_of):
+    """Something that is made of a program; layout_of lays a program in a way that is often harmless."""
+    word = draw.choice(["lot", "layout", "program", "packed"])
+    source = program if word in ("lot", "layout") else drawn_other(draw, program)
+    if word in ("lot", "program"):
+        what = few_of(draw, all_rows(source))
+    else:
+        what = layout_of(source) if draw.random() < 0.7 else drawn_layout(draw, source)
+    return (word, what) if source is program else (word, source, what)

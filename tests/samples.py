@@ -5,6 +5,10 @@ BACK = ("back",)
 LACK = ("lack",)
 HUGE = 10 ** 60 - 1
 
+# What is made by leaving out nothing, and the state of both ahead of any step.
+ITSELF = ("lot", ())
+START = ((), ())
+
 STRANGE = [
     None, True, False, 0, 1, -1, 2, HUGE, -HUGE, "", "a", "load", "abcd", b"a", b"", (), [], {}, set(), frozenset(),
     (0,), [0], (0, 0), (0, 0, 0, 0), ("a",), ("load",), ("load", 0), (("load", 0),), ((), ()), ([], None), [[]],
@@ -49,6 +53,11 @@ def shown(place, *values):
 def told(place, *values):
     """The event of asking for a value."""
     return ("told", (place, values))
+
+
+def after(*places):
+    """The state in which these rows were done and nothing stands on the stack."""
+    return (places, ())
 
 
 def program_of(*parts, entries=(0,), opens=(), marks=None):

@@ -3,7 +3,7 @@
 import inspect
 import unittest
 
-from leanbundle import errors, programs, runs
+from leanbundle import answers, errors, lots, programs, runs, tables
 
 
 class InterfaceTest(unittest.TestCase):
@@ -12,6 +12,10 @@ class InterfaceTest(unittest.TestCase):
         programs.all_rows: "(program)", programs.doors_of: "(program)",
         runs.events_of: "(program, run, *, lot=())", runs.state_after: "(program, run, *, lot=())",
         runs.layout_events: "(program, layout, run)", runs.layout_state: "(program, layout, run)",
+        answers.answer_to: "(program, made)", answers.answer_holds: "(program, made, answer)",
+        answers.paper_holds: "(program, made, pairs)", tables.user_table: "(program, made)",
+        lots.done_rows: "(program)", lots.open_rows: "(program)", lots.greatest_lots: "(program)",
+        lots.held_rows: "(program)", lots.barred_pairs: "(program)", lots.mends: "(program, lot)",
     }
 
     def test_functions_have_the_parameters_of_the_interface(self):
@@ -20,7 +24,9 @@ class InterfaceTest(unittest.TestCase):
 
     def test_functions_are_defined_in_their_file(self):
         for module, names in ((programs, ["is_program", "is_lot", "is_layout", "all_rows", "doors_of"]),
-                              (runs, ["events_of", "state_after", "layout_events", "layout_state"])):
+                              (runs, ["events_of", "state_after", "layout_events", "layout_state"]),
+                              (answers, ["answer_to", "answer_holds", "paper_holds"]), (tables, ["user_table"]),
+                              (lots, ["done_rows", "open_rows", "greatest_lots", "held_rows", "barred_pairs", "mends"])):
             for name in names:
                 self.assertEqual(getattr(module, name).__module__, module.__name__)
 
