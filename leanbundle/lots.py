@@ -51,7 +51,7 @@ def mends(program, lot):
     demand_lot(program, lot)
     demand_few(lot)
     first = machine_of(program)
-    taken = [some for some in lots_of(lot) if is_safe(first, without(lot, some))]
+    taken = [some for some in choices_of(lot) if is_safe(first, without(lot, some))]
     return sorted([some for some in taken if not any([is_part(other, some) for other in taken if other != some])])
 
 
@@ -60,7 +60,7 @@ def harmless_lots(program):
     rows = open_rows(program)
     demand_few(rows)
     first = machine_of(program)
-    return [lot for lot in lots_of(rows) if is_safe(first, lot)]
+    return [lot for lot in choices_of(rows) if is_safe(first, lot)]
 
 
 def demand_few(rows):
@@ -73,12 +73,12 @@ def is_safe(first, lot):
     return is_harmless(first, Machine(first.original, ("lot", lot)))
 
 
-def lots_of(places):
-    """All lots of these places, which are ascending."""
-    lots = [()]
-    for place in places:
-        lots = lots + [lot + (place,) for lot in lots]
-    return lots
+def choices_of(things):
+    """All tuples of some of these things, in their order."""
+    choices = [()]
+    for thing in things:
+        choices = choices + [choice + (thing,) for choice in choices]
+    return choices
 
 
 def without(lot, places):

@@ -24,18 +24,23 @@ class Machine:
         # For each state a Play that stands there, and the outcomes of all steps, or None as long as nobody asked.
         self.plays = []
         self.outcomes = []
+        # For each state the steps by which it was met.
+        self.ways = []
         # The rows whose turn came in a step whose outcome was asked for.
         self.reached = {}
-        self.meet(Play(source, lot, layout, None))
+        # For each (place, need) that was lacking at such a turn, the steps to its first one.
+        self.lacks = {}
+        self.meet(Play(source, lot, layout, None), [])
 
-    def meet(self, play):
-        """The number of the state in which it stands."""
+    def meet(self, play, steps):
+        """The number of the state in which it stands behind these steps."""
         state = state_of(play)
         if state not in self.numbers:
             self.numbers[state] = len(self.states)
             self.states.append(state)
             self.plays.append(play)
             self.outcomes.append(None)
+            self.ways.append(steps)
         return self.numbers[state]
 
     def outcomes_of(self, number):
@@ -47,14 +52,17 @@ class Machine:
     def outcome_of(self, number, step):
         play = self.plays[number].branch()
         play.take(step)
-        for place in list(play.came):
+        steps = self.ways[number] + [step]
+        for place, needs in play.came.items():
             self.reached[place] = True
+            for need in needs:
+                self.lacks.setdefault((place, need), steps)
         # A row that is not risky in the program is never told to fail by a run of it.
         risks = [risk for risk in play.risks if is_risky(row_at(self.original, risk[0]))]
-        return (tuple(play.seen), tuple(sorted(risks)), FAILED if play.failed else self.meet(play))
+        return (tuple(play.seen), tuple(sorted(risks)), FAILED if play.failed else self.meet(play, steps))
 
     def explore(self):
-        """The outcomes from all states, which are then numbered breadth first."""
+        """The outcomes from all states, which are numbered and met breadth first if nothing was asked for before."""
         number = 0
         while number < len(self.states):
             self.outcomes_of(number)
@@ -67,11 +75,11 @@ def machine_of(program):
     return Machine(program, ITSELF)
 
 
-def compare(first, second):
-    """(pairs, run) of the machines of a program and of what was made of it.
+def compare(first, second, absent=()):
+    """(pairs, run) of the machines of a program and of what was made of it, by runs without the absent steps.
 
-    If what was made is harmless, pairs is the list of all pairs of numbers of states that runs have, and run
-    is None; else pairs is None, and run has unlike events and as few steps as any.
+    If all of these have equal events, pairs is the list of all pairs of numbers of states that they have, and
+    run is None; else pairs is None, and run has unlike events and as few steps as any.
     """
     pairs = [(0, 0)]
     ways = {(0, 0): []}
@@ -80,6 +88,8 @@ def compare(first, second):
         pair = pairs[at]
         at += 1
         for step, one, other in zip(first.steps, first.outcomes_of(pair[0]), second.outcomes_of(pair[1])):
+            if step in absent:
+                continue
             steps = ways[pair] + [step]
             if not is_like(one, other):
                 return (None, (steps, unlike_row(one, other)))

@@ -1,6 +1,6 @@
 """How a program or a layout of it is done, step by step."""
 
-from leanbundle.programs import NO_PART, is_risky, row_at
+from leanbundle.programs import NO_PART, is_risky, needs_of, row_at
 
 
 class Frame:
@@ -49,7 +49,8 @@ class Play:
         self.seen = []
         # For each row that came to its risk, (place, number), number that of the events ahead of it.
         self.risks = []
-        # The rows whose turn came, also those that are not done: a pass row that waits is none of turns.
+        # For each row whose turn came the needs that were lacking then. These are also rows that are not done:
+        # a pass row that waits is none of turns.
         self.came = {}
         self.turns = []
         self.frames = []
@@ -117,7 +118,7 @@ class Play:
 
     def do_row(self, frame, place):
         row = row_at(self.source, place)
-        self.came[place] = True
+        self.came[place] = [need for need in needs_of(row) if self.giver_of(need) is None]
         if row[0] == "pass":
             frame.passing = place
             self.load_from_row(row[2])

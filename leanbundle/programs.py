@@ -1,6 +1,6 @@
 """Programs, their lots and their layouts: what is one, and what stands in it."""
 
-from leanbundle.errors import BadLayout, BadLot, BadProgram
+from leanbundle.errors import BadLayout, BadLot, BadPlace, BadProgram
 
 NAMES = ("a", "b", "c", "d")
 MOST_PARTS = 4
@@ -13,6 +13,9 @@ MOST_NEEDS_OF_GIVE = 1
 MOST_NEEDS = 2
 MOST_PACKS = 8
 NO_PART = -1
+
+# Where the needs stand in a row of these words; other rows have none.
+NEEDS_AT = {"give": 2, "show": 1, "late": 3}
 
 
 def is_integer(thing):
@@ -124,12 +127,41 @@ def is_place(program, thing):
     return is_tuple(thing, 2, 2) and is_number(thing[0], len(parts)) and is_number(thing[1], len(parts[thing[0]]))
 
 
+def demand_place(program, thing):
+    if not is_place(program, thing):
+        raise BadPlace("not the place of a row")
+
+
 def row_at(program, place):
     return program[0][place[0]][place[1]]
 
 
 def is_risky(row):
     return row[0] in ("give", "show") and row[-1]
+
+
+def needs_of(row):
+    return row[NEEDS_AT[row[0]]] if row[0] in NEEDS_AT else ()
+
+
+def is_loading(row):
+    """Whether it is a load or pass row."""
+    return row[0] in ("load", "pass")
+
+
+def part_named(row):
+    """The part that a load or pass row names."""
+    return row[1] if row[0] == "load" else row[2]
+
+
+def gives_name(row, name):
+    return row[0] in ("give", "pass", "late") and row[1] == name
+
+
+def givers_of(program, need):
+    """The places of the rows of the part that give the name."""
+    part, name = need
+    return [(part, index) for index, row in enumerate(program[0][part]) if gives_name(row, name)]
 
 
 def is_lot(program, thing):

@@ -3,7 +3,7 @@
 import inspect
 import unittest
 
-from leanbundle import answers, errors, lots, programs, runs, tables
+from leanbundle import answers, audiences, errors, lots, programs, runs, sure, tables, tool
 
 
 class InterfaceTest(unittest.TestCase):
@@ -16,6 +16,11 @@ class InterfaceTest(unittest.TestCase):
         answers.paper_holds: "(program, made, pairs)", tables.user_table: "(program, made)",
         lots.done_rows: "(program)", lots.open_rows: "(program)", lots.greatest_lots: "(program)",
         lots.held_rows: "(program)", lots.barred_pairs: "(program)", lots.mends: "(program, lot)",
+        audiences.least_audiences: "(program, made)", audiences.blind_audiences: "(program, made)",
+        sure.ready_parts: "(program, place)", sure.sure_names: "(program, place)", sure.sure_way: "(program, place, part)",
+        sure.found_names: "(program, place)", sure.run_without: "(program, place, need)", sure.shortened: "(program)",
+        tool.shaken_lot: "(program, options)", tool.breaking_program: "(options)", tool.sharp_lot: "(program)",
+        tool.reason_for: "(program, place, options)", tool.false_marks: "(program)", tool.lean: "(program)",
     }
 
     def test_functions_have_the_parameters_of_the_interface(self):
@@ -23,12 +28,17 @@ class InterfaceTest(unittest.TestCase):
             self.assertEqual(str(inspect.signature(function)), parameters, function.__name__)
 
     def test_functions_are_defined_in_their_file(self):
-        for module, names in ((programs, ["is_program", "is_lot", "is_layout", "all_rows", "doors_of"]),
-                              (runs, ["events_of", "state_after", "layout_events", "layout_state"]),
-                              (answers, ["answer_to", "answer_holds", "paper_holds"]), (tables, ["user_table"]),
-                              (lots, ["done_rows", "open_rows", "greatest_lots", "held_rows", "barred_pairs", "mends"])):
-            for name in names:
+        for module, names in (
+                (programs, "is_program is_lot is_layout all_rows doors_of"),
+                (runs, "events_of state_after layout_events layout_state"),
+                (answers, "answer_to answer_holds paper_holds"), (tables, "user_table"),
+                (lots, "done_rows open_rows greatest_lots held_rows barred_pairs mends"),
+                (audiences, "least_audiences blind_audiences"),
+                (sure, "ready_parts sure_names sure_way found_names run_without shortened"),
+                (tool, "shaken_lot breaking_program sharp_lot reason_for false_marks lean")):
+            for name in names.split():
                 self.assertEqual(getattr(module, name).__module__, module.__name__)
+                self.assertIn(getattr(module, name), self.FUNCTIONS)
 
     def test_errors_with_fields_have_the_parameters_of_the_interface(self):
         self.assertEqual(str(inspect.signature(errors.BadRun)), "(place)")

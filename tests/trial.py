@@ -66,12 +66,13 @@ def all_runs(program, made, most):
     return None, pairs, fresh
 
 
-def walk(program, made, first=ITSELF):
-    """(least, pairs) of runs of any length: a run goes on only from pairs that were not met before."""
+def walk(program, made, first=ITSELF, some=None):
+    """(least, pairs) of runs of any length, of some of the steps if told so: a run goes on only from new pairs."""
+    some = steps_of(program) if some is None else some
     met = {pair_behind(program, made, [], first)}
     level = [[]]
     while level:
-        runs, level = [steps + [step] for steps in level for step in steps_of(program)], []
+        runs, level = [steps + [step] for steps in level for step in some], []
         for steps in runs:
             if unlike(program, made, steps, first):
                 return len(steps), None
