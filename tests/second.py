@@ -258,3 +258,78 @@ def reason_lengths(program, options):
         met |= links
         many += 1
     return lengths
+
+
+# Packs [33] to [36].
+
+class Lax(Model):
+    """A model in which nothing fails and call outs end at once."""
+
+    def needed(self, place, needs, risky):
+        return ()
+
+
+def order_of(program, door):
+    """The order in which rows are done if the door is loaded alone and every call out is ended at once."""
+    lax = Lax(program)
+    lax.step(("load", door))
+    while lax.under_way:
+        lax.step(("back",))
+    return lax.done
+
+
+def owners_of(program):
+    """For each part the tuple of the doors that belong to it."""
+    known = leads(program)
+    return [tuple(door for door in doors_of(program) if door == part or (door, part) in known)
+            for part in range(len(program[0]))]
+
+
+def split_layout(program):
+    owners = owners_of(program)
+    kinds = sorted({owners[part] for part, _ in places_of(program) if owners[part]})
+    packs = tuple(tuple(place for place in order_of(program, kind[0]) if owners[place[0]] == kind) for kind in kinds)
+    doors = []
+    for door in doors_of(program):
+        order = order_of(program, door)
+        mine = [number for number, kind in enumerate(kinds) if door in kind]
+        doors.append((door, tuple(sorted(mine, key=lambda number: min(order.index(place) for place in packs[number])))))
+    return packs, tuple(doors)
+
+
+def harmless_ones(program, layouts):
+    return sorted(layout for layout in layouts if trial.walk(program, ("layout", layout))[0] is None)
+
+
+def split_orders(program):
+    packs, doors = split_layout(program)
+    orders = [[(door, order) for order in itertools.permutations(numbers)] for door, numbers in doors]
+    return [(packs, chosen) for chosen in itertools.product(*orders)]
+
+
+def partitions(things):
+    """All partitions of a list, each a list of ascending lists, by their least members."""
+    if not things:
+        return [[]]
+    found = []
+    for rest in partitions(things[:-1]):
+        found.append(rest + [[things[-1]]])
+        found.extend(rest[:at] + [rest[at] + [things[-1]]] + rest[at + 1:] for at in range(len(rest)))
+    return found
+
+
+def joined_layouts(program):
+    packs, doors = split_layout(program)
+    found = []
+    for groups in partitions(list(range(len(packs)))):
+        groups = sorted(groups)
+        where = {number: at for at, group in enumerate(groups) for number in group}
+        joined = tuple(sum((packs[number] for number in group), ()) for group in groups)
+        mapped = tuple((door, tuple(dict.fromkeys(where[number] for number in numbers))) for door, numbers in doors)
+        found.append((joined, mapped))
+    return found
+
+
+def fewest_packs(program):
+    good = harmless_ones(program, joined_layouts(program))
+    return [layout for layout in good if len(layout[0]) == min(len(other[0]) for other in good)]

@@ -185,6 +185,29 @@ class LanguageTest(unittest.TestCase):
                       isinstance(part.ctx, ast.Store)}
             self.assertFalse(stored & method_names(ast.Module([node], [])), where)
 
+    def test_names_of_imports_and_classes_are_given_once(self):
+        for name, tree in self.trees.items():
+            imports = {alias.name for node in tree.body if isinstance(node, ast.ImportFrom) for alias in node.names}
+            classes = {node.name for node in tree.body if isinstance(node, ast.ClassDef)}
+            others = {node.arg for node in ast.walk(tree) if isinstance(node, ast.arg)}
+            others |= {node.id for node in ast.walk(tree) if isinstance(node, ast.Name) and isinstance(node.ctx, ast.Store)}
+            used = {node.id for node in ast.walk(tree) if isinstance(node, ast.Name)}
+            self.assertFalse((imports | classes) & others, name)
+            self.assertLessEqual(imports, used, name)
+
+    def test_no_name_is_a_method_and_an_attribute(self):
+        for where, node in self.nodes(ast.Attribute):
+            if isinstance(node.ctx, ast.Store):
+                self.assertNotIn(node.attr, self.methods, where)
+
+    def test_operators_and_generators(self):
+        # The package has a class with an operator and an own equality: these take lists, and an operator changes nothing.
+        self.assertFalse(list(self.nodes(ast.GeneratorExp, ast.Yield, ast.YieldFrom, ast.Lambda)))
+        for where, node in self.nodes(ast.FunctionDef):
+            if node.name.startswith("__") and node.name != "__init__":
+                self.assertEqual([part.__class__ for part in node.body], [ast.Return], where)
+                self.assertIn(node.name, ("__len__", "__contains__", "__eq__"), where)
+
     def test_expressions(self):
         for where, node in self.nodes(ast.BinOp, ast.Constant, ast.Compare, ast.FunctionDef):
             if isinstance(node, ast.BinOp):
